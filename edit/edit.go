@@ -78,14 +78,14 @@ func (x *Insertion) Settle() {
 	for level := len(x.Way) - 1; level > 0; level-- {
 		x.Fit(level)
 	}
-	if size(*x.At(0)) > api.MaxFill {
+	if Size(*x.At(0)) > api.MaxFill {
 		x.raise()
 		x.Fit(1)
 	}
 }
 
-// size returns the number of records or children.
-func size(n api.Node) int {
+// Size returns the number of records or children.
+func Size(n api.Node) int {
 	return len(n.Elems) + len(n.Kids)
 }
 
@@ -97,7 +97,7 @@ func (x *Insertion) raise() {
 }
 
 // add gives a node a number: that of a free node, if there is one.
-// A tree of at most MaxRun records never needs more than MaxNodes nodes.
+// A tree of at most MaxRun records never needs more than MaxNodes nodes, and a removal frees one before it adds one.
 func (x *Insertion) add(n api.Node) int {
 	for i, old := range x.Tree.Nodes {
 		if old.Kind == api.Free {
@@ -111,7 +111,7 @@ func (x *Insertion) add(n api.Node) int {
 
 // Fit splits the node on a level below the root if it is too large, and gives its parent the greatest time in it.
 func (x *Insertion) Fit(level int) {
-	if size(*x.At(level)) > api.MaxFill {
+	if Size(*x.At(level)) > api.MaxFill {
 		x.split(level)
 	}
 	x.At(level - 1).Tids[x.Place(level)] = greatest(*x.At(level))
@@ -141,7 +141,7 @@ func (x *Insertion) split(level int) {
 
 // halves returns the halves of a node, and what separates them.
 func halves(n api.Node) (left, right api.Node, sep api.Spot) {
-	half := (size(n) + 1) / 2
+	half := (Size(n) + 1) / 2
 	left.Kind, right.Kind = n.Kind, n.Kind
 	if n.Kind == api.Leaf {
 		left.Elems, right.Elems = cut(n.Elems, half)
